@@ -26,7 +26,7 @@ func newWheel(s api.RimStone, pulleys []int64) *wheel {
 // isPulley reports whether there is a pulley of this index.
 func (w *wheel) isPulley(pulley int) bool { return 0 <= pulley && pulley < len(w.turns) }
 
-// use makes these pulleys the ones that are meant, of which the other ones are allowed nowhere.
+// use makes these the pulleys that are meant: all others are allowed nowhere.
 func (w *wheel) use(meant func(pulley int) bool) {
 	clear(w.allowed[:])
 	for pulley := range w.turns {
